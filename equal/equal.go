@@ -25,3 +25,9 @@ func State(a, b api.State) bool {
 
 // Lists reports whether two lists of lists are equal.
 func Lists(a, b [][]int) bool { return slices.EqualFunc(a, b, slices.Equal[[]int]) }
+
+// Op reports whether two operations are equal in all fields.
+func Op(a, b api.Op) bool {
+	return a.Peer == b.Peer && a.No == b.No && a.Time == b.Time && a.Kind == b.Kind && a.A == b.A && a.B == b.B && a.C == b.C && a.D == b.D &&
+		a.Of == b.Of && a.Knot == b.Knot && a.Source == b.Source && Clip(a.Clip, b.Clip)
+}

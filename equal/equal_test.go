@@ -21,4 +21,8 @@ func TestEqual(t *testing.T) {
 	if !State(s, api.State{Values: []int{1}, Lines: [][]int{{1}, {}}}) || State(s, api.State{Values: []int{1}}) {
 		t.Error("states")
 	}
+	o := api.Op{Peer: 1, Of: [2]int{1, 2}, Clip: a}
+	if !Op(o, api.Op{Peer: 1, Of: [2]int{1, 2}, Clip: b}) || Op(o, api.Op{Peer: 1, Of: [2]int{1, 2}, Clip: c}) || Op(o, api.Op{Peer: 1, Clip: a}) {
+		t.Error("operations")
+	}
 }
