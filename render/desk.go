@@ -39,13 +39,14 @@ type desk struct {
 	routes  [][]int
 	signals []*signal
 	values  *engine.Values
+	gains   map[int]func(from, n int) []int
 	kinds   [api.OutN + 1]kind
 }
 
 func newDesk(s api.Session, p api.Pool) *desk {
 	g, _ := session.Graph(s)
 	parts, _ := order.Parts(g)
-	d := &desk{session: s, pool: p, graph: g, parts: parts, values: engine.NewValues(s), kinds: kinds()}
+	d := &desk{session: s, pool: p, graph: g, parts: parts, values: engine.NewValues(s), gains: map[int]func(from, n int) []int{}, kinds: kinds()}
 	d.looped, d.routes, d.signals = make([]bool, len(s.Nodes)), make([][]int, len(s.Nodes)), make([]*signal, len(s.Nodes))
 	for i, e := range g.Edges {
 		d.routes[e.To] = append(d.routes[e.To], i)
@@ -146,6 +147,16 @@ func (d *desk) known(v, port, to int) int {
 	return to
 }
 
+// gain returns a function that returns values of a parameter, and extends what is kept of them.
+func (d *desk) gain(id int) func(from, n int) []int {
+	values, ok := d.gains[id]
+	if !ok {
+		values = func(from, n int) []int { return d.values.Gains(id, from, n) }
+		d.gains[id] = values
+	}
+	return values
+}
+
 // mix returns n samples of an input that are known.
 func (d *desk) mix(v, port, from, n int) []int {
 	var feeds []engine.Feed
@@ -156,7 +167,7 @@ func (d *desk) mix(v, port, from, n int) []int {
 		}
 		f := engine.Feed{Samples: g.samples(from-r.Delay, n)}
 		if r.Gain != 0 {
-			f.Gains = d.values.Gains(r.Gain, from, n)
+			f.Gains = d.gain(r.Gain)(from, n)
 		}
 		feeds = append(feeds, f)
 	}
