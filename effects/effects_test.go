@@ -58,6 +58,26 @@ func TestOwn(t *testing.T) {
 	}
 }
 
+// TestBehind has places behind the timeline.
+func TestBehind(t *testing.T) {
+	far := func(off int) api.Place {
+		return api.Place{Id: 9, Tick: 1 << 24, Off: off, Clip: api.Clip{Kind: api.RestK, Len: 4}}
+	}
+	track := func(l ...api.Place) api.Session {
+		return api.Session{Tempo: []api.Tempo{{N: 1 << 16, D: 1}}, Nodes: []api.Node{{Id: 1, Kind: api.TrackN, Places: l}}}
+	}
+	for i, x := range []struct {
+		a, b api.Session
+		want []api.Effect
+	}{
+		{track(), track(far(5)), nil}, {track(), track(far(-2)), []api.Effect{{Node: 1, From: 1<<40 - 2, To: 1 << 40}}}, {track(), track(rest(1, 0, 3), far(5)), []api.Effect{{Node: 1, From: 0, To: 1 << 40}}},
+	} {
+		if l, e := effects.Own(x.a, x.b); e != api.OK || !slices.Equal(l, x.want) {
+			t.Error(i, l, e)
+		}
+	}
+}
+
 func TestEffects(t *testing.T) {
 	a, b := base(), base()
 	b.Nodes[0].Places = append(b.Nodes[0].Places, rest(9, 5, 4))

@@ -103,7 +103,7 @@ func otherPlaces(a, b side, old, n api.Node) span {
 		return span{from, to}
 	}
 	var x span
-	add := func(s span) { x = x.hull(below(s.from, s.to)) }
+	add := func(s span) { x = x.hull(s) }
 	for _, p := range n.Places {
 		now := cover(b, p)
 		q, ok := before[p.Id]
@@ -121,5 +121,5 @@ func otherPlaces(a, b side, old, n api.Node) span {
 	for _, p := range before {
 		add(cover(a, p))
 	}
-	return x
+	return below(x.from, x.to)
 }

@@ -1,17 +1,15 @@
 package peers
 
 import (
-	"bytes"
-
 	"soundpost/api"
 	"soundpost/codec"
 	"soundpost/edits"
 )
 
 func ints(l ...int) api.Value {
-	v := api.Value{Kind: api.ListV}
-	for _, n := range l {
-		v.L = append(v.L, api.Value{Kind: api.IntV, N: n})
+	v := api.Value{Kind: api.ListV, L: make([]api.Value, len(l))}
+	for i, n := range l {
+		v.L[i] = api.Value{Kind: api.IntV, N: n}
 	}
 	return v
 }
@@ -40,51 +38,58 @@ func encode(o api.Op) []byte {
 	return b
 }
 
-// at returns an element of a list, the zero value if there is none.
-func at(v api.Value, i int) (x api.Value) {
-	if i < len(v.L) {
-		x = v.L[i]
+// lists reports whether a value is a list of so many integers (-1: any number).
+func lists(v api.Value, many int) bool {
+	for _, x := range v.L {
+		if x.Kind != api.IntV {
+			return false
+		}
 	}
-	return x
+	return v.Kind == api.ListV && (many < 0 || len(v.L) == many)
 }
 
-// decode returns the operation of a message, and false if the data is none. What is read wrongly has another message.
+// decode returns the operation of a message, and false if the data is none. As values have one encoding each, it is a message if the value has the form of one.
 func decode(b []byte) (o api.Op, ok bool) {
 	v, e := codec.Decode(b)
-	if e != api.OK {
+	if e != api.OK || v.Kind != api.ListV || len(v.L) != 13 {
 		return api.Op{}, false
 	}
-	n := func(i int) int { return at(v, i).N }
-	o = api.Op{Peer: n(0), No: n(1), Time: n(2), Kind: n(3), A: n(4), B: n(5), C: n(6), D: n(7), Of: [2]int{n(8), n(9)}}
-	k := at(v, 10)
-	o.Knot = api.Knot{At: at(k, 0).N, Value: at(k, 1).N, Shape: at(k, 2).N, A: at(k, 3).N, B: at(k, 4).N}
-	nodes := at(v, 11).L
-	o.Clip, _ = clip(nodes)
-	o.Source = at(v, 12).S
-	if len(nodes) > api.MaxClip || edits.Check(o) != api.OK || !bytes.Equal(encode(o), b) {
+	l, knot, nodes, source := v.L[:10], v.L[10], v.L[11], v.L[12]
+	if !lists(api.Value{Kind: api.ListV, L: l}, 10) || !lists(knot, 5) || nodes.Kind != api.ListV || source.Kind != api.TextV {
+		return api.Op{}, false
+	}
+	o = api.Op{Peer: l[0].N, No: l[1].N, Time: l[2].N, Kind: l[3].N, A: l[4].N, B: l[5].N, C: l[6].N, D: l[7].N, Of: [2]int{l[8].N, l[9].N}, Source: source.S}
+	k := knot.L
+	o.Knot = api.Knot{At: k[0].N, Value: k[1].N, Shape: k[2].N, A: k[3].N, B: k[4].N}
+	c, rest, ok := clip(nodes.L)
+	o.Clip = c
+	if !ok || len(rest) > 0 || edits.Check(o) != api.OK {
 		return api.Op{}, false
 	}
 	return o, true
 }
 
-// clip reads the nodes of a clip in preorder, and returns what is left of them.
-func clip(nodes []api.Value) (c api.Clip, rest []api.Value) {
-	if len(nodes) == 0 {
-		return api.Clip{}, nil
+// clip reads the nodes of a clip in preorder, and returns those that are left.
+func clip(nodes []api.Value) (c api.Clip, rest []api.Value, ok bool) {
+	if len(nodes) == 0 || nodes[0].Kind != api.ListV || len(nodes[0].L) != 8 {
+		return api.Clip{}, nil, false
 	}
-	v, rest := nodes[0], nodes[1:]
-	c = api.Clip{Kind: at(v, 0).N, From: at(v, 2).N, Len: at(v, 3).N, A: at(v, 4).N, B: at(v, 5).N}
-	copy(c.Take[:], at(v, 1).S)
-	for _, x := range at(v, 6).L {
+	l, rest := nodes[0].L, nodes[1:]
+	numbers := api.Value{Kind: api.ListV, L: []api.Value{l[0], l[2], l[3], l[4], l[5], l[7]}}
+	if !lists(numbers, -1) || l[1].Kind != api.TextV || len(l[1].S) != len(c.Take) || !lists(l[6], -1) || l[7].N < 0 || l[7].N > len(rest) {
+		return api.Clip{}, nil, false
+	}
+	c = api.Clip{Kind: l[0].N, From: l[2].N, Len: l[3].N, A: l[4].N, B: l[5].N}
+	copy(c.Take[:], l[1].S)
+	for _, x := range l[6].L {
 		c.At = append(c.At, x.N)
 	}
-	for range at(v, 7).N {
-		if len(rest) == 0 {
-			break
+	for range l[7].N {
+		x, left, ok := clip(rest)
+		if !ok {
+			return api.Clip{}, nil, false
 		}
-		var x api.Clip
-		x, rest = clip(rest)
-		c.L = append(c.L, x)
+		c.L, rest = append(c.L, x), left
 	}
-	return c, rest
+	return c, rest, true
 }

@@ -81,6 +81,25 @@ func TestManyIndices(t *testing.T) {
 	}
 }
 
+// TestLargestIndex has an index of 511 nodes, and another one.
+func TestLargestIndex(t *testing.T) {
+	index := api.Expr{Kind: api.ParamE, Name: "q"}
+	for range 510 {
+		index = api.Expr{Kind: api.AbsE, L: []api.Expr{index}}
+	}
+	p := resolve(t, "let a = in(q - q / 1 + 7); out in(0);")
+	p.Params[0].Hi = 9
+	p.Stmts[0].X.L[0] = api.Expr{Kind: api.MaxE, L: []api.Expr{{Kind: api.NumE, N: 3}, {Kind: api.ParamE, Name: "q"}}}
+	p.Stmts[1].X.L[0] = index
+	if n, e := Latency(p); n != 9 || e != api.OK {
+		t.Error(n, e)
+	}
+	p.Params[0].Hi = 4
+	if n, e := Latency(p); n != 4 || e != api.OK {
+		t.Error(n, e)
+	}
+}
+
 func TestErrors(t *testing.T) {
 	l, _, _ := syntax.Parse("processor p latency 0 tail 0 { let a = 1; out a; }")
 	over := resolve(t, "out in(0) + in(0);")
