@@ -190,17 +190,27 @@ func kinds() [api.OutN + 1]kind {
 
 func extendTrack(d *desk, v int, g *signal) bool {
 	for g.end() < g.to {
-		// Behind the last block that can be read there is silence.
-		from := min(g.end(), api.MaxPos)
+		from, l := g.end(), d.session.Nodes[v].Places
 		n := min(g.to-from, api.MaxBlock)
-		x, _ := places.Samples(d.pool, d.session.Tempo, d.session.Nodes[v].Places, from, n)
-		if skip := g.end() - from; skip < n {
-			g.data = append(g.data, x[skip:]...)
-		} else {
-			g.data = append(g.data, make([]int, g.to-g.end())...)
+		if behind := from - api.MaxPos; behind > 0 {
+			from, l = api.MaxPos, earlier(d.session.Tempo, l, behind)
 		}
+		x, _ := places.Samples(d.pool, d.session.Tempo, l, from, n)
+		g.data = append(g.data, x...)
 	}
 	return true
+}
+
+// earlier moves places by some samples, so that what is behind the last position can be read there. What cannot be moved as far ends before it.
+func earlier(m []api.Tempo, l []api.Place, by int) (x []api.Place) {
+	for _, p := range l {
+		from, _, _ := places.Extent(m, p)
+		if from >= by && p.Off-by >= -api.MaxTake {
+			p.Off -= by
+			x = append(x, p)
+		}
+	}
+	return x
 }
 
 func extendBus(d *desk, v int, g *signal) bool {

@@ -219,3 +219,24 @@ func TestFar(t *testing.T) {
 		t.Error(l, e)
 	}
 }
+
+// TestBehind looks at what lies behind the last position.
+func TestBehind(t *testing.T) {
+	s, p := simple(t)
+	s.Procs = fixtures.Resolve("processor p latency 9 tail 0 { out in(9); }")
+	s.Nodes = append(s.Nodes, api.Node{Id: 3, Kind: api.ProcN})
+	s.Routes = []api.Route{{From: 1, To: 3}, {From: 3, To: 2}}
+	s.Tempo = []api.Tempo{{N: 1 << 16, D: 1}}
+	track := &s.Nodes[0]
+	early := track.Places[0]
+	early.Tick, early.Off = 1<<24, -1<<24
+	late := early
+	late.Id, late.Off = 2, 65536+5
+	track.Places = []api.Place{early, late}
+	want := make([]int, 65536)
+	want[65536-4], want[65536-3] = 100, 200
+	l, e := render.Outs(s, p, 1<<40, 65536)
+	if e != api.OK || !slices.Equal(l[0], want) {
+		t.Error(e, l[0][65525:])
+	}
+}
