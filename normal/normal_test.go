@@ -176,3 +176,78 @@ func TestSound(t *testing.T) {
 		}
 	}
 }
+
+// sequence returns the origins of all samples: a take and an index, or silence.
+func sequence(c api.Clip) (l [][2]int) {
+	switch c.Kind {
+	case api.TakeK:
+		for i := range c.Len {
+			if c.From+i < 1<<24 {
+				l = append(l, [2]int{int(c.Take[0]), c.From + i})
+			} else {
+				l = append(l, [2]int{-1, 0})
+			}
+		}
+	case api.RestK:
+		for range c.Len {
+			l = append(l, [2]int{-1, 0})
+		}
+	case api.CutK:
+		l = sequence(c.L[0])[c.From : c.From+c.Len]
+	case api.BackK:
+		l = slices.Clone(sequence(c.L[0]))
+		slices.Reverse(l)
+	case api.JoinK:
+		for _, x := range c.L {
+			l = append(l, sequence(x)...)
+		}
+	}
+	return l
+}
+
+// TestExact compares clips by their origins and by their normal forms.
+func TestExact(t *testing.T) {
+	r := &fixtures.Random{State: 8}
+	var arbitrary func(depth int) api.Clip
+	arbitrary = func(depth int) api.Clip {
+		switch kind := r.Intn(6); {
+		case depth == 0 || kind < 2:
+			if r.Intn(4) == 0 {
+				return rest(1 + r.Intn(2))
+			}
+			from := r.Intn(3)
+			if r.Intn(6) == 0 {
+				from = 1<<24 - 2
+			}
+			return api.Clip{Kind: api.TakeK, Take: api.Digest{byte(r.Intn(2))}, From: from, Len: 1 + r.Intn(3)}
+		case kind == 2:
+			return back(arbitrary(depth - 1))
+		case kind == 3:
+			c := arbitrary(depth - 1)
+			n := len(sequence(c))
+			from := r.Intn(n)
+			return cut(from, 1+r.Intn(n-from), c)
+		}
+		return joined(arbitrary(depth-1), arbitrary(depth-1))
+	}
+	equals := 0
+	var l []api.Clip
+	for range 300 {
+		l = append(l, arbitrary(3))
+	}
+	for i, a := range l {
+		for _, b := range l[:i] {
+			same, e := Same(a, b)
+			want := slices.Equal(sequence(a), sequence(b))
+			if e != api.OK || same != want {
+				t.Fatal(a, b, same, e)
+			}
+			if want {
+				equals++
+			}
+		}
+	}
+	if equals < 100 {
+		t.Error(equals)
+	}
+}

@@ -181,3 +181,24 @@ func TestSame(t *testing.T) {
 		t.Error("index")
 	}
 }
+
+// TestBeginnings parses all beginnings of a source: none of their tokens is refused.
+func TestBeginnings(t *testing.T) {
+	r := rand.New(rand.NewSource(3))
+	for range 60 {
+		decls := "param a from - 1 to 2 ; state s from 0 to 0 ; line d 5 from - 9 to 9 ; table t = 1 , - 2 , 0 ;"
+		p := parse(t, body(decls))[0]
+		p.Stmts = []api.Stmt{{Kind: api.LetT, Name: "x", X: random(r, 4)}, {Kind: api.SetT, Name: "s", X: random(r, 3)}, {Kind: api.PushT, Name: "d", X: random(r, 3)}, {Kind: api.OutT, X: random(r, 4)}}
+		s, e := Print([]api.Proc{p, p})
+		if e != api.OK {
+			t.Fatal(e)
+		}
+		tokens, _, _ := lex.Lex(s)
+		for i := range tokens {
+			src, _ := lex.Text(tokens[:i])
+			if _, at, e := Parse(src); e != api.OK && (e != api.ErrSyntax || at != len(src)) {
+				t.Fatal(src, at, e)
+			}
+		}
+	}
+}
