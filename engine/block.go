@@ -3,7 +3,6 @@ package engine
 import (
 	"soundpost/api"
 	"soundpost/places"
-	"soundpost/session"
 	"soundpost/whole"
 )
 
@@ -34,9 +33,8 @@ type Block struct {
 	values  *Values
 }
 
-// NewBlock returns n output samples from a snap on, none of which has been performed. The lists of the snap are replaced, not changed.
-func NewBlock(s api.Session, p api.Pool, plan api.Plan, x api.Snap, n int) *Block {
-	g, _ := session.Graph(s)
+// NewBlock returns n output samples of a session with a graph, from a snap on, none of which has been performed. The lists of the snap are replaced, not changed.
+func NewBlock(s api.Session, g api.Graph, p api.Pool, plan api.Plan, x api.Snap, n int) *Block {
 	many := len(s.Nodes)
 	b := &Block{Snap: x, session: s, pool: p, plan: plan, graph: g, n: n, values: NewValues(s)}
 	b.into, b.from, b.done, b.runners = make([][]int, many), make([][]int, many), make([]int, many), make([]*Runner, many)

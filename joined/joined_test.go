@@ -273,7 +273,7 @@ func checkCache(t *testing.T, r *fixtures.Random, s api.Session, p api.Pool) {
 		t.Fatal(e)
 	}
 	l := []api.Op{{Time: 1, Peer: 7, Kind: api.NodeO, A: api.TrackN}}
-	l = append(l, api.Op{Time: 2, Peer: 7, No: 1, Kind: api.DropO, A: s1(r, s)})
+	l = append(l, api.Op{Time: 2, Peer: 7, No: 1, Kind: api.DropO, A: anyNode(r, s)})
 	for _, o := range l {
 		x, _, e := merge.Build(api.Log{Ops: []api.Op{o}})
 		if e != api.OK {
@@ -287,8 +287,8 @@ func checkCache(t *testing.T, r *fixtures.Random, s api.Session, p api.Pool) {
 	}
 }
 
-// s1 returns the Id of a node, or 1 without nodes.
-func s1(r *fixtures.Random, s api.Session) int {
+// anyNode returns the Id of a node, or 1 without nodes.
+func anyNode(r *fixtures.Random, s api.Session) int {
 	if len(s.Nodes) == 0 {
 		return 1
 	}
