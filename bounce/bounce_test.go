@@ -112,3 +112,16 @@ func TestFile(t *testing.T) {
 		}
 	}
 }
+
+// TestGreatest bounces as far as a file may reach.
+func TestGreatest(t *testing.T) {
+	s := api.Session{Tempo: flat}
+	for i, x := range [][3]int{{1 << 24, 0, 1}, {0, 1 << 24, 65536}, {1<<24 - 5, 5, 5}} {
+		if _, m, e := bounce.File(s, api.Pool{}, x[0], x[1], x[2]); e != api.OK || m.To != 1<<24 || len(m.Sounds) != (x[1]+x[2]-1)/x[2] {
+			t.Error(i, e)
+		}
+	}
+	if _, _, e := bounce.File(s, api.Pool{}, 1<<24+1, 0, 1); e != api.ErrLimit {
+		t.Error(e)
+	}
+}

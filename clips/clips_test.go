@@ -192,3 +192,9 @@ func TestWindows(t *testing.T) {
 		}
 	}
 }
+
+func TestNothing(t *testing.T) {
+	if x, e := Samples(api.Pool{}, rest(3), 1, 0); e != api.OK || len(x) != 0 {
+		t.Error(x, e)
+	}
+}

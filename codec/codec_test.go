@@ -145,3 +145,15 @@ func TestSame(t *testing.T) {
 		t.Error("nil and empty")
 	}
 }
+
+func TestDigits(t *testing.T) {
+	for _, u := range []int{127, 128, 16383, 16384} {
+		for _, v := range []api.Value{text(string(make([]byte, u))), num(u / 2), num(-u/2 - 1)} {
+			b, _ := Encode(v)
+			n, e := Size(v)
+			if w, f := Decode(b); e != api.OK || f != api.OK || n != len(b) || !Same(v, w) {
+				t.Error(u, n, len(b))
+			}
+		}
+	}
+}

@@ -178,3 +178,12 @@ func heard(c api.Comp, t int) int {
 	}
 	return lane
 }
+
+func TestGreatestBlock(t *testing.T) {
+	c := api.Comp{Lanes: []api.Clip{rest(10)}, Parts: []api.Part{part(0, 0, 0)}}
+	for _, n := range []int{0, 65536} {
+		if x, e := Samples(api.Pool{}, c, 5, n); e != api.OK || len(x) != n {
+			t.Error(n, e)
+		}
+	}
+}

@@ -192,3 +192,10 @@ func TestSpaces(t *testing.T) {
 		t.Error("a beginning")
 	}
 }
+
+func TestGreatestNumbers(t *testing.T) {
+	got := play(t, "op 0 node 4 0", "play 0 256", "meter 0 256", "bounce 256 256 256")
+	if got[6] != "  out"+strings.Repeat(" 0", 256) || got[9] != "  meter 0 0 0" || got[12] != "  file 1024 1" {
+		t.Error(got)
+	}
+}

@@ -103,3 +103,9 @@ func TestResolve(t *testing.T) {
 		}
 	}
 }
+
+func TestNoValues(t *testing.T) {
+	if v, e := Values(nil, 3, 0); e != api.OK || len(v) != 0 {
+		t.Error(v, e)
+	}
+}

@@ -140,3 +140,28 @@ func TestSync(t *testing.T) {
 		}
 	}
 }
+
+func TestBounds(t *testing.T) {
+	d, e := New(1)
+	if e != api.OK {
+		t.Fatal(e)
+	}
+	for _, left := range []int{0, 65536} {
+		if x, e := Stop(d, left); e != api.OK || x.Left != left || Check(x) != api.OK {
+			t.Error(left, e)
+		}
+	}
+	for range 4096 {
+		d = put(t, d, 0, nil)
+	}
+	if Check(d) != api.OK {
+		t.Error("4096 writes")
+	}
+	d.Pending = append(d.Pending, d.Pending[0])
+	if Check(d) != api.ErrDisk {
+		t.Error("4097 writes")
+	}
+	if Check(api.Disk{Sectors: make([][]byte, 4097)}) != api.ErrDisk {
+		t.Error("4097 sectors")
+	}
+}

@@ -70,7 +70,7 @@ func TestBehind(t *testing.T) {
 		a, b api.Session
 		want []api.Effect
 	}{
-		{track(), track(far(5)), nil}, {track(), track(far(-2)), []api.Effect{{Node: 1, From: 1<<40 - 2, To: 1 << 40}}}, {track(), track(rest(1, 0, 3), far(5)), []api.Effect{{Node: 1, From: 0, To: 1 << 40}}},
+		{track(), track(far(5)), nil}, {track(), track(far(0)), nil}, {track(), track(far(-2)), []api.Effect{{Node: 1, From: 1<<40 - 2, To: 1 << 40}}}, {track(), track(rest(1, 0, 3), far(5)), []api.Effect{{Node: 1, From: 0, To: 1 << 40}}},
 	} {
 		if l, e := effects.Own(x.a, x.b); e != api.OK || !slices.Equal(l, x.want) {
 			t.Error(i, l, e)

@@ -71,3 +71,11 @@ func TestValue(t *testing.T) {
 		t.Error(e)
 	}
 }
+
+func TestGreatestBlock(t *testing.T) {
+	g := gesture(api.LatchM, 1<<40-2, 1<<40-1, 1<<40, 5)
+	v, e := Values(make([]int, 65536), 1<<40-3, []api.Gesture{g})
+	if e != api.OK || len(v) != 65536 || v[0] != 0 || v[1] != 5 || v[2] != 5 || v[3] != 0 {
+		t.Error(v[:4], e)
+	}
+}

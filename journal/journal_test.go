@@ -172,3 +172,61 @@ func TestOldGeneration(t *testing.T) {
 		t.Error("a newer sector does not go on")
 	}
 }
+
+// TestForm has sectors with a right checksum that are not good all the same.
+func TestForm(t *testing.T) {
+	for i, f := range []func(s []byte){
+		func(s []byte) { s[noAt+1] = 1 }, func(s []byte) { s[noAt] = 1 }, func(s []byte) { s[flagsAt] = 4 }, func(s []byte) { s[flagsAt] = begins }, func(s []byte) { s[flagsAt], s[sizeAt] = ends, 0; clear(s[dataAt:endAt]) },
+		func(s []byte) { s[sizeAt] = 113 }, func(s []byte) { s[sizeAt] = 2 }, func(s []byte) { clear(s[:sumAt]); clear(s[endAt:]) }, func(s []byte) { s[0]++ }, func(s []byte) { s[127]++ }, func(s []byte) { s[sumAt]++ }, func(s []byte) { s[endAt-1] = 1 },
+	} {
+		s := sectors([]byte{1, 2, 3}, 0, 7)[0]
+		if !good(s[:], 0) {
+			t.Fatal("good")
+		}
+		before := number(checksum(s[noAt:endAt]))
+		f(s[:])
+		if bytes.Equal(s[sumAt:noAt], before[:]) {
+			sum := number(checksum(s[noAt:endAt]))
+			copy(s[sumAt:], sum[:])
+		}
+		if good(s[:], 0) {
+			t.Error(i)
+		}
+	}
+	d, _ := disk.New(2)
+	long := sectors(make([]byte, 200), 0, 1)
+	d.Sectors[0], d.Sectors[1] = long[1][:], long[1][:]
+	d.Sectors[0] = bytes.Clone(d.Sectors[0])
+	d.Sectors[0][noAt+1] = 0
+	sum := number(checksum(d.Sectors[0][noAt:endAt]))
+	copy(d.Sectors[0][sumAt:], sum[:])
+	if !good(d.Sectors[0], 0) {
+		t.Fatal("a sector that continues")
+	}
+	if j, e := Open(d); e != api.OK || len(j.Records) != 0 {
+		t.Error("no record begins", j, e)
+	}
+	d.Sectors[0] = long[0][:]
+	d.Sectors[1] = make([]byte, 128)
+	if j, e := Open(d); e != api.OK || len(j.Records) != 0 {
+		t.Error("no record ends", j, e)
+	}
+}
+
+func TestBounds(t *testing.T) {
+	for i, x := range []struct {
+		j    api.Journal
+		want api.Errno
+	}{{api.Journal{Many: 4096}, api.OK}, {api.Journal{Many: 1, Records: [][]byte{{1}}, Synced: 1}, api.OK}, {api.Journal{Many: 1, Records: [][]byte{make([]byte, 112)}}, api.OK}, {api.Journal{Many: 1, Records: [][]byte{make([]byte, 113)}}, api.ErrArg}, {api.Journal{Many: 0}, api.ErrArg}} {
+		if e := Check(x.j); e != x.want {
+			t.Error(i, e)
+		}
+	}
+	j, d := fresh(3)
+	g := number(maxGeneration - 1)
+	d.Sectors[2] = bytes.Clone(d.Sectors[2])
+	copy(d.Sectors[2][endAt:], g[:])
+	if _, y, e := Sync(appended(t, j, 5), d); e != api.OK || read(y.Sectors[0][:4]) != maxGeneration {
+		t.Error(e)
+	}
+}

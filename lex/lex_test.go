@@ -74,7 +74,7 @@ func TestSame(t *testing.T) {
 }
 
 func TestName(t *testing.T) {
-	for s, want := range map[string]bool{"B_12": true, "_12": false, "": false, "z": true, "a-b": false, "1a": false, "aé": false} {
+	for s, want := range map[string]bool{"B_12": true, "AZaz09": true, "A": true, "Z": true, "a": true, "@a": false, "[": false, "`": false, "{": false, "a/": false, "a:": false, "_12": false, "": false, "z": true, "a-b": false, "1a": false, "aé": false} {
 		if Name(s) != want {
 			t.Error(s)
 		}

@@ -87,3 +87,19 @@ func TestValues(t *testing.T) {
 		}
 	}
 }
+
+func TestRing(t *testing.T) {
+	var l []api.Link
+	for i := range 256 {
+		l = append(l, link(i, (i+1)%256))
+	}
+	if e := Check(256, l); e != api.ErrCircular {
+		t.Error(e)
+	}
+	if e := Check(256, l[:255]); e != api.OK {
+		t.Error(e)
+	}
+	if e := Check(2, []api.Link{link(2, 0)}); e != api.ErrLink {
+		t.Error(e)
+	}
+}

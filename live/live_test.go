@@ -72,3 +72,9 @@ func TestPlay(t *testing.T) {
 		t.Error("logs")
 	}
 }
+
+func TestGreatestBlock(t *testing.T) {
+	if x, e := Play(api.Pool{}, []api.Cue{{}, {At: 65536}}, 65536); e != api.OK || len(x) != 65536 {
+		t.Error(len(x), e)
+	}
+}

@@ -87,3 +87,24 @@ func TestDeep(t *testing.T) {
 		}
 	}
 }
+
+func TestGreatest(t *testing.T) {
+	one, out := i(api.ConstI, 1), i(api.OutI, 0)
+	c := api.Code{Latency: 4096, Tail: 1 << 20, Params: make([]api.Bound, 16), States: make([]api.Bound, 16), Lines: slices.Repeat([]api.Line{{Size: 65536}}, 16), Tables: slices.Repeat([][]int{make([]int, 1024)}, 16)}
+	c.Instrs = append(c.Instrs, one)
+	for len(c.Instrs) < 65535 {
+		c.Instrs = append(c.Instrs, i(api.NegI, 0))
+	}
+	c.Instrs = append(c.Instrs, out)
+	if e := Check(c); e != api.OK {
+		t.Error(e)
+	}
+	c.Tail = -1
+	if e := Check(c); e != api.OK {
+		t.Error(e)
+	}
+	c.Instrs = append([]api.Instr{one, i(api.SetI, 0)}, c.Instrs...)
+	if e := Check(c); e != api.ErrProgram {
+		t.Error(e)
+	}
+}

@@ -80,7 +80,7 @@ func TestSlice(t *testing.T) {
 		want     []api.Event
 		e        api.Errno
 	}{
-		{0, 10, []api.Event{control(1, 7, 10), control(2, 7, 20), control(2, 8, 30), ev(5, api.OnM, 0, 1, 9, 3), control(6, 8, 31), ev(10, api.OffM, 0, 1, 0, 3)}, api.OK}, {6, 20, []api.Event{control(6, 7, 20), control(6, 8, 31), off(15, 1)}, api.OK}, {3, 3, []api.Event{control(3, 7, 20), control(3, 8, 30)}, api.OK}, {0, 0, nil, api.OK},
+		{0, 10, []api.Event{control(1, 7, 10), control(2, 7, 20), control(2, 8, 30), ev(5, api.OnM, 0, 1, 9, 3), control(6, 8, 31), ev(10, api.OffM, 0, 1, 0, 3)}, api.OK}, {6, 20, []api.Event{control(6, 7, 20), control(6, 8, 31), off(15, 1)}, api.OK}, {3, 3, []api.Event{control(3, 7, 20), control(3, 8, 30)}, api.OK}, {0, 0, nil, api.OK}, {16, 1 << 40, []api.Event{control(16, 7, 20), control(16, 8, 31)}, api.OK},
 		{5, 4, nil, api.ErrArg}, {-1, 4, nil, api.ErrArg}, {0, 1<<40 + 1, nil, api.ErrArg}, {5, 15, []api.Event{control(5, 7, 20), control(5, 8, 30), ev(5, api.OnM, 0, 1, 9, 3), control(6, 8, 31), ev(15, api.OffM, 0, 1, 0, 3)}, api.OK},
 	} {
 		if y, e := Slice(l, x.from, x.to); e != x.e || !slices.Equal(y, x.want) {

@@ -98,3 +98,29 @@ func TestForm(t *testing.T) {
 		}
 	}
 }
+
+func TestGreatest(t *testing.T) {
+	x := api.Expr{Kind: api.NumE}
+	for range 511 {
+		x = api.Expr{Kind: api.NegE, L: []api.Expr{x}}
+	}
+	p := api.Proc{Name: "p", Latency: 4096, Tail: -1}
+	for i := range 16 {
+		n := string(rune('a' + i))
+		p.Params = append(p.Params, api.Bound{Name: "p" + n})
+		p.States = append(p.States, api.Bound{Name: "s" + n})
+		p.Lines = append(p.Lines, api.Line{Name: "l" + n, Size: 65536})
+		p.Tables = append(p.Tables, api.Table{Name: "tt" + n, Values: make([]int, 1024)})
+	}
+	for i := range 63 {
+		p.Stmts = append(p.Stmts, api.Stmt{Kind: api.LetT, Name: "n" + strings.Repeat("x", i%30) + string(rune('a'+i/30)), X: x})
+	}
+	p.Stmts = append(p.Stmts, api.Stmt{Kind: api.OutT, X: api.Expr{Kind: api.DivE, N: 1, L: []api.Expr{{Kind: api.NumE}}}})
+	if _, e := Resolve(p); e != api.OK {
+		t.Error(e)
+	}
+	p.Tail = 1 << 20
+	if _, e := Resolve(p); e != api.OK {
+		t.Error(e)
+	}
+}

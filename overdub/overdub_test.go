@@ -136,3 +136,16 @@ func TestHeard(t *testing.T) {
 		}
 	}
 }
+
+func TestGreatest(t *testing.T) {
+	var l []api.Span
+	for i := range 65536 {
+		l = append(l, rolls(2*i, 1, 0))
+	}
+	if x, e := Lay(l, 0, 10, 0, 0); e != api.OK || len(x) != 5 {
+		t.Error(x, e)
+	}
+	if x, e := Places(slices.Repeat([]api.Laid{laid(1<<24, 1<<24, 1<<24, 0)}, 256), api.Digest{}); e != api.OK || len(x) != 256 {
+		t.Error(e)
+	}
+}

@@ -195,3 +195,38 @@ func TestConvergence(t *testing.T) {
 		}
 	}
 }
+
+// TestForms replaces each part of a message by one of another form.
+func TestForms(t *testing.T) {
+	o := api.Op{Peer: 1, No: 2, Time: 3, Kind: api.PlaceO, A: 4, Clip: api.Clip{Kind: api.LayK, At: []int{0}, L: []api.Clip{{Kind: api.TakeK, Take: api.Digest{9}, Len: 9}}}}
+	v, _ := codec.Decode(encode(o))
+	tried := 0
+	replace := func(x *api.Value, y api.Value) {
+		old := *x
+		*x = y
+		b, e := codec.Encode(v)
+		if z, ok := decode(b); e != api.OK || ok && !slices.Equal(encode(z), b) {
+			t.Error("accepted", y, e)
+		}
+		*x = old
+		tried++
+	}
+	var change func(x *api.Value)
+	change = func(x *api.Value) {
+		for _, y := range []api.Value{ints(), ints(0), ints(0, 0, 0, 0, 0), text(""), text("abc"), ints(7).L[0], ints(-1).L[0]} {
+			replace(x, y)
+		}
+		if x.Kind == api.ListV {
+			replace(x, api.Value{Kind: api.ListV, L: append(slices.Clone(x.L), ints(0).L...)})
+			replace(x, api.Value{Kind: api.ListV, L: append(slices.Clone(x.L), text(""))})
+			replace(x, api.Value{Kind: api.ListV, L: x.L[:max(0, len(x.L)-1)]})
+		}
+		for i := range x.L {
+			change(&x.L[i])
+		}
+	}
+	change(&v)
+	if tried < 200 {
+		t.Error(tried)
+	}
+}

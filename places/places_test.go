@@ -118,3 +118,13 @@ func cutInTwo(t *testing.T, r *fixtures.Random, p api.Pool, l []api.Place, from 
 		t.Fatal("cut in two", x, want, e)
 	}
 }
+
+func TestGreatest(t *testing.T) {
+	var l []api.Place
+	for id := range 256 {
+		l = append(l, place(id+1, 0, id, rest(1)))
+	}
+	if e := Check(two, l); e != api.OK {
+		t.Error(e)
+	}
+}

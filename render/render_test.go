@@ -220,6 +220,19 @@ func TestFar(t *testing.T) {
 	}
 }
 
+func TestGreatestBlock(t *testing.T) {
+	s, p := simple(t)
+	a, e1 := render.Node(s, p, 1, 0, 65536)
+	b, e2 := render.Input(s, p, 2, api.MainP, 0, 65536)
+	c, e3 := render.Outs(s, p, 1<<40, 65536)
+	if e1 != api.OK || e2 != api.OK || e3 != api.OK || len(a) != 65536 || len(b) != 65536 || len(c[0]) != 65536 {
+		t.Error(e1, e2, e3)
+	}
+	if _, e := render.Input(s, p, 2, api.MainP, 0, 65537); e != api.ErrLimit {
+		t.Error(e)
+	}
+}
+
 // TestBehind looks at what lies behind the last position.
 func TestBehind(t *testing.T) {
 	s, p := simple(t)

@@ -233,3 +233,14 @@ func checkSteps(t *testing.T, r *fixtures.Random, s api.Session, p api.Pool, g a
 		t.Fatal(e)
 	}
 }
+
+func TestGreatest(t *testing.T) {
+	var stages []api.Stage
+	for i := range 256 {
+		stages = append(stages, stage(i, i%2))
+	}
+	one := api.Graph{Latency: []int{0}}
+	if l, e := replan.Steps(one, []int{0}, stages, 65536); e != api.OK || l[len(l)-1].At != 65535 {
+		t.Error(e)
+	}
+}

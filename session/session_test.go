@@ -2,6 +2,7 @@ package session_test
 
 import (
 	"slices"
+	"strings"
 	"testing"
 
 	"soundpost/api"
@@ -196,5 +197,25 @@ func TestDigest(t *testing.T) {
 	}
 	if d, e := session.Digest(s); e != api.OK || d != digest.Tagged("session", b) {
 		t.Error(e)
+	}
+}
+
+// TestGreatest has as much of everything as a session may have.
+func TestGreatest(t *testing.T) {
+	s := api.Session{Tempo: flat}
+	for i := range 64 {
+		s.Procs = append(s.Procs, fixtures.Resolve("processor n"+strings.Repeat("x", i%30)+string(rune('a'+i/30))+" latency 0 tail 0 { out 1; }")...)
+	}
+	for i := range 256 {
+		s.Params = append(s.Params, api.Param{Id: 1<<20 - 255 + i})
+	}
+	for i := range 4096 {
+		s.Nodes = append(s.Nodes, api.Node{Id: 1<<20 - 4095 + i, Kind: api.BusN})
+	}
+	for i := range 16384 {
+		s.Routes = append(s.Routes, api.Route{From: s.Nodes[i/16].Id, To: s.Nodes[2000+i%16].Id})
+	}
+	if len(s.Procs) != 64 || session.Check(s) != api.OK {
+		t.Error(session.Check(s))
 	}
 }

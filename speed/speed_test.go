@@ -77,3 +77,13 @@ func TestAt(t *testing.T) {
 		t.Error(y, e)
 	}
 }
+
+func TestGreatest(t *testing.T) {
+	long := make([]int, 1<<24)
+	if x, e := Convert(long, 1, 1); e != api.OK || len(x) != 1<<24 {
+		t.Error(e)
+	}
+	if _, e := At(long, 1, 1, 1<<24-1); e != api.OK {
+		t.Error(e)
+	}
+}

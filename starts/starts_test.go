@@ -129,3 +129,9 @@ func TestSnaps(t *testing.T) {
 		}
 	}
 }
+
+func TestGreatestBlock(t *testing.T) {
+	if l, e := starts.From(made(nil, api.OutN), api.Pool{}, 1<<40, 65536); e != api.OK || len(l[0]) != 65536 {
+		t.Error(e)
+	}
+}

@@ -202,3 +202,30 @@ func TestBeginnings(t *testing.T) {
 		}
 	}
 }
+
+// TestDepth nests units as deeply as they may be, in all ways.
+func TestDepth(t *testing.T) {
+	for _, x := range [][2]string{{"(", ")"}, {"abs(", ")"}, {"min(1, ", ")"}, {"max(", ", 1)"}, {"tap(d, ", ")"}, {"-", ""}} {
+		nest := func(n int) string {
+			return body("out " + strings.Repeat(x[0], n) + "a" + strings.Repeat(x[1], n) + ";")
+		}
+		l := parse(t, nest(63))
+		if _, e := Print(l); e != api.OK {
+			t.Error(x, e)
+		}
+		if _, at, e := Parse(nest(64)); e != api.ErrSyntax || at != 35+63*len(x[0]) {
+			t.Error(x, at, e)
+		}
+		if x[0] == "(" {
+			continue
+		}
+		s := &l[0].Stmts[0].X
+		*s = api.Expr{Kind: api.NegE, L: []api.Expr{*s}}
+		if _, e := Print(l); e != api.ErrSyntax {
+			t.Error(x, e)
+		}
+	}
+	if Same(api.Proc{Tables: []api.Table{{Name: "a", Values: []int{1}}}}, api.Proc{Tables: []api.Table{{Name: "a", Values: []int{2}}}}) || Same(api.Proc{Tables: []api.Table{{Name: "a"}}}, api.Proc{Tables: []api.Table{{Name: "b"}}}) {
+		t.Error("tables")
+	}
+}

@@ -107,3 +107,13 @@ func TestRender(t *testing.T) {
 		}
 	}
 }
+
+func TestGreatest(t *testing.T) {
+	who, task, e := workers.Turns(make([][]int, 4096), 16, make([]int, 65536))
+	if e != api.OK || len(who) != 4096 || task[0] != 4095 {
+		t.Error(e)
+	}
+	if _, x, e := workers.Render(api.Session{Tempo: flat}, api.Pool{}, api.Plan{}, api.Snap{At: 1<<40 - 5}, 5, 1, nil); e != api.OK || x.At != 1<<40 {
+		t.Error(x, e)
+	}
+}
